@@ -13,10 +13,92 @@ import (
 	"testing"
 )
 
-// layers: the packages of the map.
-const layers = "aim api arrive axiom bars bench bits bound byfloor cal car chart clock cols csv cumul demand design diff digits dispatch draw energy engine eta " +
-	"face figure frac gantt goal grid heap hist lcg lexer meet move near nums observe pack pareto park parse people pick place prob pulse queue quiet rank replay " +
-	"report rota run sector serve sheet show shuffle span story tape tick track trip vet want when windows words zone"
+// calls: the packages of the map, each with those that it may lean on.
+const calls = `
+api:
+nums: api
+digits: api nums
+bits: api
+pack: api
+words: api
+heap: api
+grid: api
+frac: api digits nums
+span: api
+lcg:
+cumul: api
+draw: api cumul words
+pick: api words
+hist: api
+rank: api
+cols: digits
+place: api
+cal: api heap
+lexer: api
+vet: api
+demand: api grid pick
+when: api
+bound: api place
+trip: api
+track: api
+parse: api lexer vet
+show: api digits vet
+arrive: api cumul demand draw grid vet when words
+queue: api bits place
+want: api bits
+face: api bits want
+near: api place
+sector:
+eta: api bits bound near place want
+figure: api frac track trip
+chart: api digits place track
+tape: api pack
+diff: api track
+serve: api face place queue want
+move: api face place
+aim: api bits bound eta near place want
+report: api cols digits figure frac hist rank show trip
+car: api move place queue sector serve
+quiet: api face move place
+dispatch: aim api bits car eta near place sector trip want
+tick: api car dispatch track
+engine: api cal car dispatch quiet track
+axiom: api place sector track trip
+run: api arrive engine parse report show tick
+bench: api arrive cols digits engine frac rank report show trip
+replay: api digits track trip
+clock: api digits
+csv: api
+pareto:
+bars: api digits nums
+prob: api
+sheet: api csv digits
+observe: api grid
+goal: api digits lexer rank trip
+zone: api
+park: api place
+people: api
+pulse: api
+energy: api track trip
+meet: api span track
+story: api digits lexer track
+design: api arrive cols digits engine goal pareto trip
+rota: api span
+shuffle: api words
+byfloor: api cols digits place
+gantt: api digits track
+windows: api clock cols digits frac pulse
+`
+
+// layers: the packages of the map, and what each may lean on.
+func layers() map[string][]string {
+	l := map[string][]string{}
+	for line := range strings.Lines(strings.TrimSpace(calls)) {
+		name, leans, _ := strings.Cut(line, ":")
+		l[name] = strings.Fields(leans)
+	}
+	return l
+}
 
 // library: what may be imported of it.
 const library = "bytes cmp container/heap errors iter maps math math/bits slices sort strconv strings sync sync/atomic unicode unicode/utf8"
@@ -62,7 +144,7 @@ func source(t *testing.T, fset *token.FileSet, layer string) []*ast.File {
 	return files
 }
 
-func checkImports(t *testing.T, fset *token.FileSet, f *ast.File) {
+func checkImports(t *testing.T, fset *token.FileSet, f *ast.File, leans []string) {
 	names := map[string]string{}
 	for _, i := range f.Imports {
 		path, err := strconv.Unquote(i.Path.Value)
@@ -70,7 +152,7 @@ func checkImports(t *testing.T, fset *token.FileSet, f *ast.File) {
 			t.Fatal(err)
 		}
 		own, ok := strings.CutPrefix(path, "hoistway/")
-		if !ok && !slices.Contains(strings.Fields(library), path) || ok && !slices.Contains(strings.Fields(layers), own) {
+		if !ok && !slices.Contains(strings.Fields(library), path) || ok && !slices.Contains(leans, own) {
 			t.Errorf("%s: imports %s", fset.Position(i.Pos()), path)
 		}
 		name := path[strings.LastIndex(path, "/")+1:]
@@ -99,15 +181,15 @@ func checkComments(t *testing.T, fset *token.FileSet, f *ast.File) {
 	}
 }
 
-// TestLayers: each layer has its package, of Go files alone, with imports that may be and no line to the compiler.
+// TestLayers: each layer has its package, of Go files alone, with imports that may be (of the project those that the map names) and no line to the compiler.
 func TestLayers(t *testing.T) {
-	for _, layer := range strings.Fields(layers) {
+	for layer, leans := range layers() {
 		fset := token.NewFileSet()
 		for _, f := range source(t, fset, layer) {
 			if f.Name.Name != layer {
 				t.Errorf("%s: package %s", layer, f.Name.Name)
 			}
-			checkImports(t, fset, f)
+			checkImports(t, fset, f, leans)
 			checkComments(t, fset, f)
 		}
 	}
