@@ -1,7 +1,9 @@
-// Package sample makes up ways and trips, for the tests of the layers that tell something of such.
+// Package sample makes up ways and trips, and scenarios with those who come, for the tests of the layers that tell something of such.
 package sample
 
 import (
+	"slices"
+
 	"hoistway/api"
 )
 
@@ -32,4 +34,31 @@ func Trips(draw Draw, many, floors, cars, ticks int) []api.Trip {
 		l = append(l, t)
 	}
 	return l
+}
+
+// Game: a scenario that may be, of few floors and cars, and who comes: now and then many at once, and then nobody for long; of some games a few come behind the horizon.
+func Game(draw Draw) (api.Scenario, []api.Passenger) {
+	s := api.Scenario{
+		Floors: 2 + draw(9), Gap: 1 + draw(4), Cars: 1 + draw(4), Capacity: 1 + draw(4),
+		Open: 1 + draw(4), Dwell: 1 + draw(4), Close: 1 + draw(4), Transfer: 1 + draw(4),
+		Segments:   []api.Segment{{Kind: api.Lunch, Ticks: 100, Rate: 30}},
+		Dispatcher: api.Dispatcher(1 + draw(4)), Horizon: 1 + draw(400), Bins: 1, Width: 1,
+	}
+	var people []api.Passenger
+	for now := 0; len(people) < 60 && now < s.Horizon+5; now += draw(1 + draw(40)) {
+		p := api.Passenger{Id: len(people), Tick: now, From: draw(s.Floors)}
+		p.To = (p.From + 1 + draw(s.Floors-1)) % s.Floors
+		people = append(people, p)
+	}
+	return s, people
+}
+
+// SameCar: are two cars the same?
+func SameCar(a, b api.Car) bool {
+	return a.Pos == b.Pos && a.Dir == b.Dir && a.Mode == b.Mode && a.Left == b.Left && a.Waited == b.Waited && slices.Equal(a.Riders, b.Riders)
+}
+
+// SameState: are two states the same?
+func SameState(a, b api.State) bool {
+	return a.Tick == b.Tick && slices.EqualFunc(a.Cars, b.Cars, SameCar) && slices.Equal(a.Waiting, b.Waiting) && slices.Equal(a.Calls, b.Calls) && slices.Equal(a.Trips, b.Trips)
 }

@@ -4,8 +4,10 @@ import (
 	"math/rand/v2"
 	"testing"
 
+	"hoistway/api"
 	"hoistway/sample"
 	"hoistway/trip"
+	"hoistway/vet"
 )
 
 func TestLegs(t *testing.T) {
@@ -34,6 +36,59 @@ func TestTrips(t *testing.T) {
 			if x.Id != i || x.Arrive < 0 || x.From < 0 || x.From >= 4 || x.To < 0 || x.To >= 4 || !waits && !rides {
 				t.Fatal(x)
 			}
+		}
+	}
+}
+
+func TestGame(t *testing.T) {
+	var by [5]int
+	late := 0
+	for seed := range uint64(200) {
+		s, people := sample.Game(rand.New(rand.NewPCG(seed, 2)).IntN)
+		if e := vet.Check(s); e != api.OK {
+			t.Fatal(s, e)
+		}
+		by[s.Dispatcher]++
+		for i, p := range people {
+			if p.Id != i || p.Tick < 0 || i > 0 && p.Tick < people[i-1].Tick || p.From == p.To || p.From < 0 || p.From >= s.Floors || p.To < 0 || p.To >= s.Floors {
+				t.Fatal(s, people)
+			}
+			if p.Tick >= s.Horizon {
+				late++
+			}
+		}
+	}
+	if by[1] < 20 || by[2] < 20 || by[3] < 20 || by[4] < 20 || late == 0 {
+		t.Error(by, late)
+	}
+}
+
+func TestSameState(t *testing.T) {
+	full := func() api.State {
+		return api.State{
+			Tick: 1, Cars: []api.Car{{Pos: 1, Dir: 1, Mode: api.Open, Left: 2, Riders: []api.Rider{{Id: 0, To: 3}}}},
+			Waiting: []api.Waiter{{Id: 1, From: 2, To: 3, Car: -1}}, Calls: []api.Call{{Floor: 2, Dir: 1}}, Trips: []api.Trip{{}, {Id: 1}},
+		}
+	}
+	if !sample.SameState(full(), full()) || !sample.SameState(api.State{}, api.State{Cars: []api.Car{}, Trips: []api.Trip{}}) {
+		t.Error("not the same")
+	}
+	for i, change := range []func(s *api.State){
+		func(s *api.State) { s.Tick = 2 },
+		func(s *api.State) { s.Cars = nil },
+		func(s *api.State) { s.Cars[0].Pos = 2 },
+		func(s *api.State) { s.Cars[0].Dir = 0 },
+		func(s *api.State) { s.Cars[0].Mode = api.Opening },
+		func(s *api.State) { s.Cars[0].Left = 1 },
+		func(s *api.State) { s.Cars[0].Waited = true },
+		func(s *api.State) { s.Cars[0].Riders[0].To = 4 },
+		func(s *api.State) { s.Waiting[0].Car = 0 },
+		func(s *api.State) { s.Calls[0].Car = 1 },
+		func(s *api.State) { s.Trips[1].Board = 5 },
+	} {
+		s := full()
+		if change(&s); sample.SameState(s, full()) || sample.SameState(full(), s) {
+			t.Errorf("change %d: the same", i)
 		}
 	}
 }

@@ -10,6 +10,7 @@ import (
 	"hoistway/api"
 	"hoistway/car"
 	"hoistway/queue"
+	"hoistway/sample"
 	"hoistway/tick"
 	"hoistway/track"
 )
@@ -32,14 +33,6 @@ func come(id, tick, from, to int) api.Passenger {
 	return api.Passenger{Id: id, Tick: tick, From: from, To: to}
 }
 
-func sameCar(a, b api.Car) bool {
-	return a.Pos == b.Pos && a.Dir == b.Dir && a.Mode == b.Mode && a.Left == b.Left && a.Waited == b.Waited && slices.Equal(a.Riders, b.Riders)
-}
-
-func sameState(a, b api.State) bool {
-	return a.Tick == b.Tick && slices.EqualFunc(a.Cars, b.Cars, sameCar) && slices.Equal(a.Waiting, b.Waiting) && slices.Equal(a.Calls, b.Calls) && slices.Equal(a.Trips, b.Trips)
-}
-
 func sameLog(a, b api.Log) bool {
 	return slices.Equal(a.Trips, b.Trips) && slices.EqualFunc(a.Legs, b.Legs, slices.Equal[[]api.Leg]) && a.Used == b.Used
 }
@@ -57,7 +50,7 @@ func TestNew(t *testing.T) {
 		for d := api.Collective; d <= api.Destination; d++ {
 			s := with(cars, d)
 			x := tick.New(s, []api.Passenger{come(0, 0, 0, 1), come(1, 0, 3, 1), come(2, 7, 0, 9)})
-			if !sameState(x.W.State(), car.New(s).State()) || !reflect.DeepEqual(x.W.S, s) {
+			if !sample.SameState(x.W.State(), car.New(s).State()) || !reflect.DeepEqual(x.W.S, s) {
 				t.Errorf("%d cars: %v", cars, x.W)
 			}
 			if l := x.Log(); len(l.Trips) != 0 || len(l.Legs) != cars || slices.ContainsFunc(l.Legs, func(l []api.Leg) bool { return len(l) > 0 }) || l.Used != 0 {
@@ -96,7 +89,7 @@ func TestStepAdmitsFirst(t *testing.T) {
 	for d := api.Collective; d <= api.Destination; d++ {
 		x := tick.New(with(1, d), []api.Passenger{come(0, 0, 0, 9)})
 		x.Step()
-		if want := (api.Car{Dir: 1, Mode: api.Opening, Left: 3}); !sameCar(x.W.Cars[0], want) {
+		if want := (api.Car{Dir: 1, Mode: api.Opening, Left: 3}); !sample.SameCar(x.W.Cars[0], want) {
 			t.Errorf("dispatcher %d: %v", d, x.W.Cars[0])
 		}
 	}
@@ -181,7 +174,7 @@ func TestAlone(t *testing.T) {
 	x := tick.New(house, []api.Passenger{come(0, 0, 0, 1)})
 	for range 40 {
 		x.Step()
-		if c, ok := want[x.W.Tick]; ok && !sameCar(x.W.Cars[0], c) {
+		if c, ok := want[x.W.Tick]; ok && !sample.SameCar(x.W.Cars[0], c) {
 			t.Errorf("behind %d ticks: %v; want %v", x.W.Tick, x.W.Cars[0], c)
 		}
 	}
@@ -265,11 +258,11 @@ func TestServedByOther(t *testing.T) {
 		t.Errorf("behind 4 ticks: %v", x.W.State())
 	}
 	steps(x, 1)
-	if len(x.W.Hall.Calls()) != 0 || x.W.Trips[2].Car != 0 || x.W.Trips[2].Board != 4 || !sameCar(x.W.Cars[1], api.Car{Pos: 12, Dir: -1, Mode: api.Moving}) {
+	if len(x.W.Hall.Calls()) != 0 || x.W.Trips[2].Car != 0 || x.W.Trips[2].Board != 4 || !sample.SameCar(x.W.Cars[1], api.Car{Pos: 12, Dir: -1, Mode: api.Moving}) {
 		t.Errorf("behind 5 ticks: %v", x.W.State())
 	}
 	steps(x, 1)
-	if !sameCar(x.W.Cars[1], api.Car{Pos: 12}) {
+	if !sample.SameCar(x.W.Cars[1], api.Car{Pos: 12}) {
 		t.Errorf("behind 6 ticks: %v", x.W.Cars[1])
 	}
 }
@@ -387,37 +380,20 @@ func TestHandedIn(t *testing.T) {
 	if !slices.Equal(people, kept) || !slices.Equal(s.Segments, house.Segments) {
 		t.Errorf("%v, %v", people, s)
 	}
-	if !sameLog(a.Log(), want) || !sameLog(b.Log(), want) || !sameState(a.W.State(), b.W.State()) {
+	if !sameLog(a.Log(), want) || !sameLog(b.Log(), want) || !sample.SameState(a.W.State(), b.W.State()) {
 		t.Errorf("%v, %v; want %v", a.Log(), b.Log(), want)
 	}
-}
-
-// drawn: a scenario that may be, and who comes.
-func drawn(r *rand.Rand) (api.Scenario, []api.Passenger) {
-	s := api.Scenario{
-		Floors: 2 + r.IntN(9), Gap: 1 + r.IntN(4), Cars: 1 + r.IntN(4), Capacity: 1 + r.IntN(4),
-		Open: 1 + r.IntN(4), Dwell: 1 + r.IntN(4), Close: 1 + r.IntN(4), Transfer: 1 + r.IntN(4),
-		Segments: house.Segments, Dispatcher: api.Dispatcher(1 + r.IntN(4)), Horizon: 1 + r.IntN(400), Bins: 1, Width: 1,
-	}
-	var people []api.Passenger
-	// Now and then many come at once, and then nobody for long.
-	for now := 0; len(people) < 60 && now < s.Horizon+5; now += r.IntN(1 + r.IntN(40)) {
-		p := come(len(people), now, r.IntN(s.Floors), 0)
-		p.To = (p.From + 1 + r.IntN(s.Floors-1)) % s.Floors
-		people = append(people, p)
-	}
-	return s, people
 }
 
 // P46.1, P46.2: drawn scenarios, held tick by tick against the chapters' words.
 func TestDrawn(t *testing.T) {
 	for seed := range uint64(400) {
-		s, people := drawn(rand.New(rand.NewPCG(seed, 46)))
+		s, people := sample.Game(rand.New(rand.NewPCG(seed, 46)).IntN)
 		x, m := tick.New(s, people), newModel(s)
 		for m.tick < s.Horizon {
 			x.Step()
 			m.step(people)
-			if got, want := x.W.State(), m.state(); !sameState(got, want) {
+			if got, want := x.W.State(), m.state(); !sample.SameState(got, want) {
 				t.Fatalf("seed %d, %v: %v; want %v", seed, s, got, want)
 			}
 			if m.tick%50 == 0 && !sameLog(x.Log(), m.log()) {
