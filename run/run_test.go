@@ -267,23 +267,9 @@ func TestUsed(t *testing.T) {
 	}
 }
 
-// game: a scenario that may be, with a few segments of traffic, some of them without any, and more words than it takes.
+// game: a scenario that may be, and more words than it takes.
 func game(seed uint64) (api.Scenario, []uint32) {
-	r := rand.New(rand.NewPCG(seed, 49))
-	s, _ := sample.Game(r.IntN)
-	s.Bins, s.Width, s.Segments = 1+r.IntN(9), 1+r.IntN(40), nil
-	for range 1 + r.IntN(api.MaxSegments) {
-		g := api.Segment{Kind: api.Template(1 + r.IntN(4)), Ticks: 1 + r.IntN(150)}
-		if r.IntN(3) > 0 {
-			g.Rate = r.IntN(1 + r.IntN(600))
-		}
-		s.Segments = append(s.Segments, g)
-	}
-	words := make([]uint32, 3000)
-	for i := range words {
-		words[i] = r.Uint32()
-	}
-	return s, words
+	return sample.Traffic(rand.New(rand.NewPCG(seed, 49)).IntN)
 }
 
 // plain: what P49.1 asks for, of a scenario that may be, by the layers below alone.

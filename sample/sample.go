@@ -53,6 +53,24 @@ func Game(draw Draw) (api.Scenario, []api.Passenger) {
 	return s, people
 }
 
+// Traffic: such a scenario with a few segments of traffic, some of them without any, and more words than it takes.
+func Traffic(draw Draw) (api.Scenario, []uint32) {
+	s, _ := Game(draw)
+	s.Bins, s.Width, s.Segments = 1+draw(9), 1+draw(40), nil
+	for range 1 + draw(api.MaxSegments) {
+		g := api.Segment{Kind: api.Template(1 + draw(4)), Ticks: 1 + draw(150)}
+		if draw(3) > 0 {
+			g.Rate = draw(1 + draw(600))
+		}
+		s.Segments = append(s.Segments, g)
+	}
+	words := make([]uint32, 3000)
+	for i := range words {
+		words[i] = uint32(draw(1 << 32))
+	}
+	return s, words
+}
+
 // SameCar: are two cars the same?
 func SameCar(a, b api.Car) bool {
 	return a.Pos == b.Pos && a.Dir == b.Dir && a.Mode == b.Mode && a.Left == b.Left && a.Waited == b.Waited && slices.Equal(a.Riders, b.Riders)

@@ -5,6 +5,7 @@ import (
 	"testing"
 
 	"hoistway/api"
+	"hoistway/arrive"
 	"hoistway/sample"
 	"hoistway/trip"
 	"hoistway/vet"
@@ -60,6 +61,30 @@ func TestGame(t *testing.T) {
 	}
 	if by[1] < 20 || by[2] < 20 || by[3] < 20 || by[4] < 20 || late == 0 {
 		t.Error(by, late)
+	}
+}
+
+func TestTraffic(t *testing.T) {
+	came, many, calm := 0, 0, 0
+	for seed := range uint64(200) {
+		s, words := sample.Traffic(rand.New(rand.NewPCG(seed, 3)).IntN)
+		if e := vet.Check(s); e != api.OK {
+			t.Fatal(s, int(e))
+		}
+		people, _, e := arrive.List(s, api.Stream{Words: words})
+		if e != api.OK {
+			t.Fatal(s, int(e))
+		}
+		came += len(people)
+		many += min(len(s.Segments)-1, 1)
+		for _, g := range s.Segments {
+			if g.Rate == 0 {
+				calm++
+			}
+		}
+	}
+	if came < 2000 || many < 100 || calm < 100 {
+		t.Error(came, many, calm)
 	}
 }
 
